@@ -1,0 +1,1 @@
+"""The cheapest tickets: zones, products, journeys, and what they cost together."""
